@@ -1,0 +1,1 @@
+"""Audit deterrence: incentives to cheat under noisy test signals."""
