@@ -34,3 +34,10 @@ def joint_test_at(setting, signals):
     """The sum of joint_test over these signals, as a fraction."""
     weight = sum([setting.test_weights[signal] for signal in signals])
     return lowest_terms(setting.prior_num * weight, setting.prior_den * sum(setting.test_weights))
+
+
+def joint_production_at(setting, signals):
+    """The sum of joint_production over these signals, as a fraction."""
+    weight = sum([setting.production_weights[signal] for signal in signals])
+    production_num = setting.prior_den - setting.prior_num
+    return lowest_terms(production_num * weight, setting.prior_den * sum(setting.production_weights))

@@ -1,7 +1,7 @@
 """The one way in: calls on one new instance, and their answers."""
 
 from deterrence.operations import create, operate
-from deterrence.refusals import NoSetting, NoSuchSignal, OutsideLimits
+from deterrence.refusals import NoDeterrentPrior, NoSetting, NoSuchSignal, OutsideLimits
 
 
 class Instance:
@@ -29,6 +29,8 @@ class Instance:
             return [-2]
         except OutsideLimits:
             return [-22]
+        except NoDeterrentPrior:
+            return [-33]
 
 
 def answers(calls):

@@ -23,6 +23,11 @@ def check_signal_set(mask, signal_count):
         raise OutsideLimits()
 
 
+def check_mapping(mapping, signal_count):
+    if len(mapping) != signal_count or max(mapping) >= signal_count:
+        raise OutsideLimits()
+
+
 def check_weights(weights, signal_count):
     if len(weights) != signal_count:
         raise OutsideLimits()

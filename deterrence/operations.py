@@ -4,16 +4,19 @@ Each but create takes the setting and the call's numbers, and gives back the num
 answer. It checks all its arguments before it changes the setting.
 """
 
-from deterrence.agent import paying_signals, profit_at, joint_test_at
+from deterrence.agent import joint_production_at, joint_test_at, paying_signals, profit_at
 from deterrence.limits import (
     check_amounts,
+    check_mapping,
     check_prior,
     check_signal,
     check_signal_count,
     check_signal_set,
     check_weights,
 )
-from deterrence.settings import Setting
+from deterrence.overseer import cheapest_with_cost, cost_of, prior_against, prior_against_all
+from deterrence.refusals import NoDeterrentPrior
+from deterrence.settings import Setting, with_merge, with_prior, with_stakes
 
 
 def create(signal_count):
@@ -63,9 +66,14 @@ def cheating_value(setting, numbers):
     return [0] + profit_at(setting, [numbers[0]])
 
 
-def cheating_signals(setting, numbers):
+def counted_signals(setting):
+    """How many signals cheating pays at, then these."""
     signals = paying_signals(setting)
     return [len(signals)] + signals
+
+
+def cheating_signals(setting, numbers):
+    return counted_signals(setting)
 
 
 def expected_profit(setting, numbers):
@@ -83,6 +91,62 @@ def detection_probability(setting, numbers):
     return [0] + joint_test_at(setting, paying_signals(setting))
 
 
+def harm_probability(setting, numbers):
+    return [0] + joint_production_at(setting, paying_signals(setting))
+
+
+def total_cost(setting, numbers):
+    return [0] + cost_of(setting)
+
+
+def existing(prior):
+    """The prior, where it exists."""
+    if prior is None:
+        raise NoDeterrentPrior()
+    return prior
+
+
+def deterrent_prior_at(setting, numbers):
+    check_signal(numbers[0], setting.signal_count)
+    return [0] + existing(prior_against(setting, numbers[0]))
+
+
+def deterrent_prior(setting, numbers):
+    return [0] + existing(prior_against_all(setting))
+
+
+def preview_merge(setting, mapping):
+    check_mapping(mapping, setting.signal_count)
+    merged = with_merge(setting, mapping)
+    return [0] + existing(prior_against_all(merged)) + profit_at(merged, paying_signals(merged))
+
+
+def merge_signals(setting, mapping):
+    check_mapping(mapping, setting.signal_count)
+    setting.merge(mapping)
+    return counted_signals(setting)
+
+
+def cheapest_prior(setting, numbers):
+    cheapest = cheapest_with_cost(setting)
+    return [0] + cheapest[0] + cheapest[1]
+
+
+def cheating_signals_for_prior(setting, numbers):
+    check_prior(numbers[0], numbers[1])
+    return counted_signals(with_prior(setting, numbers[0], numbers[1]))
+
+
+def cheating_signals_for_stakes(setting, numbers):
+    check_amounts(numbers[0], numbers[1])
+    return counted_signals(with_stakes(setting, numbers[0], numbers[1]))
+
+
+def get_settings(setting, numbers):
+    answer = [setting.signal_count, setting.prior_num, setting.prior_den, setting.gain, setting.loss]
+    return answer + [setting.harm_price, setting.test_price] + setting.test_weights + setting.production_weights
+
+
 # By their numbers in the document; create, number 0, needs no setting and stands by itself.
 OPERATIONS = {
     1: set_test_weights,
@@ -95,6 +159,16 @@ OPERATIONS = {
     8: expected_profit,
     9: expected_profit_of,
     10: detection_probability,
+    11: harm_probability,
+    12: total_cost,
+    13: deterrent_prior_at,
+    14: deterrent_prior,
+    15: preview_merge,
+    16: merge_signals,
+    17: cheapest_prior,
+    18: cheating_signals_for_prior,
+    19: cheating_signals_for_stakes,
+    20: get_settings,
 }
 
 

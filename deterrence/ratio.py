@@ -14,3 +14,8 @@ def lowest_terms(top, bottom):
     """The fraction top / bottom in lowest terms; bottom is positive."""
     divisor = common_divisor(abs(top), bottom)
     return [top // divisor, bottom // divisor]
+
+
+def is_less(left, right):
+    """Whether the fraction left is below the fraction right."""
+    return left[0] * right[1] < right[0] * left[1]

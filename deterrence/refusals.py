@@ -11,3 +11,7 @@ class NoSuchSignal(Exception):
 
 class OutsideLimits(Exception):
     """An argument is outside its limits."""
+
+
+class NoDeterrentPrior(Exception):
+    """The deterrent prior doesn't exist."""

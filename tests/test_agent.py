@@ -3,7 +3,7 @@
 import unittest
 from fractions import Fraction
 
-from calling import HUGE, last, run
+from calling import HUGE, fraction, last, made_of, many_settings, run, run_behind
 
 EXAMPLE = [("create", 2), ("set_test_weights", 3, 1), ("set_production_weights", 1, 3), ("set_stakes", 4, 1)]
 
@@ -133,95 +133,37 @@ class DetectionProbability(unittest.TestCase):
         self.assertEqual(told[2:], [[2, 0, 1], [0, 0, 1]])
 
 
-def fraction(told):
-    """An answered fraction, which must be in lowest terms with a positive denominator."""
-    value = Fraction(told[1], told[2])
-    if told[0] != 0 or len(told) != 3 or [value.numerator, value.denominator] != told[1:]:
-        raise AssertionError(told)
-    return value
-
-
-def many_settings():
-    """Settings of one to five signals, from a walk that is the same in each run."""
-    seed = 12345
-    for count in range(1, 6):
-        for _ in range(120):
-            drawn = []
-            for _ in range(2 * count + 4):
-                seed = (seed * 1103515245 + 12345) % 2147483648
-                drawn.append(seed // 65536)
-            limit = (3, 5, 100)[drawn[0] % 3]
-            test_weights = [weight % limit for weight in drawn[:count]]
-            production_weights = [weight % limit for weight in drawn[count:2 * count]]
-            den = drawn[-4] % 99 + 1
-            prior = (drawn[-3] % (den + 1), den)
-            stakes = (drawn[-2] % 1000, drawn[-1] % 1000)
-            if any(test_weights) and any(production_weights):
-                yield test_weights, production_weights, prior, stakes
-
-
-def made_of(test_weights, production_weights, prior, stakes):
-    return [("create", len(test_weights)), ("set_test_weights", *test_weights),
-            ("set_production_weights", *production_weights), ("set_prior", *prior), ("set_stakes", *stakes)]
-
-
 class BesideThePlainWords(unittest.TestCase):
     """The terms of the document, reckoned with Python's fractions."""
 
     def test_operations_6_to_10(self):
-        for test_weights, production_weights, prior, stakes in many_settings():
-            with self.subTest(weights=(test_weights, production_weights), prior=prior, stakes=stakes):
-                count = len(test_weights)
-                tests = [Fraction(*prior) * Fraction(weight, sum(test_weights)) for weight in test_weights]
-                uses = [(1 - Fraction(*prior)) * Fraction(weight, sum(production_weights))
-                        for weight in production_weights]
-                values = [stakes[0] * uses[signal] - stakes[1] * tests[signal] for signal in range(count)]
+        for case in many_settings():
+            with self.subTest(case):
+                count = len(case.test_weights)
+                prior = Fraction(*case.prior)
+                gain, loss = case.stakes
+                tests = [prior * Fraction(weight, sum(case.test_weights)) for weight in case.test_weights]
+                uses = [(1 - prior) * Fraction(weight, sum(case.production_weights))
+                        for weight in case.production_weights]
+                values = [gain * uses[signal] - loss * tests[signal] for signal in range(count)]
                 paying = [signal for signal in range(count) if values[signal] > 0]
-                told = run(*made_of(test_weights, production_weights, prior, stakes),
-                           *[("cheating_value", signal) for signal in range(count)],
-                           ("cheating_signals",), ("expected_profit",), ("detection_probability",))[5:]
+                told = run_behind(made_of(case), [*[("cheating_value", signal) for signal in range(count)],
+                                                  ("cheating_signals",), ("expected_profit",),
+                                                  ("detection_probability",)])
                 self.assertEqual([fraction(reply) for reply in told[:count]], values)
                 self.assertEqual(told[count], [len(paying), *paying])
                 self.assertEqual(fraction(told[count + 1]), sum(values[signal] for signal in paying))
                 self.assertEqual(fraction(told[count + 2]), sum(tests[signal] for signal in paying))
 
     def test_each_set_is_the_sum_of_its_values(self):
-        for setting in many_settings():
-            count = len(setting[0])
-            told = run(*made_of(*setting), *[("cheating_value", signal) for signal in range(count)],
-                       *[("expected_profit_of", mask) for mask in range(2 ** count)])[5:]
+        for case in many_settings():
+            count = len(case.test_weights)
+            told = run_behind(made_of(case), [*[("cheating_value", signal) for signal in range(count)],
+                                              *[("expected_profit_of", mask) for mask in range(2 ** count)]])
             values = [fraction(reply) for reply in told[:count]]
             for mask in range(2 ** count):
                 wanted = sum(values[signal] for signal in range(count) if mask >> signal & 1)
                 self.assertEqual(fraction(told[count + mask]), wanted)
-
-
-class Requirements(unittest.TestCase):
-    def test_5_no_set_and_not_0_is_above_the_rational_agents_profit(self):
-        for setting in many_settings():
-            masks = range(2 ** len(setting[0]))
-            told = run(*made_of(*setting), ("expected_profit",), *[("expected_profit_of", mask) for mask in masks])[5:]
-            profit = fraction(told[0])
-            self.assertGreaterEqual(profit, 0)
-            self.assertEqual(profit, max(fraction(reply) for reply in told[1:]))
-
-    def test_6_a_higher_prior_makes_no_signal_pay(self):
-        for test_weights, production_weights, _, stakes in many_settings():
-            steps = []
-            for num in range(0, 21):
-                steps += [("set_prior", num, 20), ("cheating_signals",)]
-            told = run(*made_of(test_weights, production_weights, (0, 1), stakes), *steps)[6::2]
-            for lower, higher in zip(told, told[1:]):
-                self.assertLessEqual(set(higher[1:]), set(lower[1:]))
-
-    def test_6_a_higher_loss_makes_no_signal_pay(self):
-        for test_weights, production_weights, prior, stakes in many_settings():
-            steps = []
-            for loss in (0, 1, 2, 5, 10, 30, 100, 300, 500, 998, 999):
-                steps += [("set_stakes", stakes[0], loss), ("cheating_signals",)]
-            told = run(*made_of(test_weights, production_weights, prior, stakes), *steps)[6::2]
-            for lower, higher in zip(told, told[1:]):
-                self.assertLessEqual(set(higher[1:]), set(lower[1:]))
 
 
 if __name__ == "__main__":

@@ -6,7 +6,7 @@ from deterrence.desk import answers
 from calling import HUGE, NUMBERS, last, run, written
 
 ONE_OF_EACH = [
-    ("set_test_weights", 3, 1),
+    ("set_test_weights", 3, 2),
     ("set_production_weights", 1, 3),
     ("set_prior", 1, 3),
     ("set_stakes", 4, 1),
@@ -16,7 +16,19 @@ ONE_OF_EACH = [
     ("expected_profit",),
     ("expected_profit_of", 1),
     ("detection_probability",),
+    ("harm_probability",),
+    ("total_cost",),
+    ("deterrent_prior_at", 0),
+    ("deterrent_prior",),
+    ("preview_merge", 0, 0),
+    ("merge_signals", 1, 1),
+    ("cheapest_prior",),
+    ("cheating_signals_for_prior", 1, 9),
+    ("cheating_signals_for_stakes", 8, 1),
+    ("get_settings",),
 ]
+
+THAT_CHANGE = ("set_test_weights", "set_production_weights", "set_prior", "set_stakes", "set_prices", "merge_signals")
 
 REFUSED = [
     ("create", 0),
@@ -37,10 +49,24 @@ REFUSED = [
     ("set_prices", 1000, 7),
     ("cheating_value", 2),
     ("expected_profit_of", 4),
+    ("deterrent_prior_at", 2),
+    ("deterrent_prior_at", HUGE),
+    ("preview_merge", 0),
+    ("preview_merge", 0, 2),
+    ("preview_merge",),
+    ("merge_signals", 0, 0, 0),
+    ("merge_signals", 2, 0),
+    ("merge_signals",),
+    ("cheating_signals_for_prior", 0, 0),
+    ("cheating_signals_for_prior", 3, 2),
+    ("cheating_signals_for_prior", 1, 100),
+    ("cheating_signals_for_stakes", 7, 1000),
+    ("cheating_signals_for_stakes", 1000, 7),
 ]
 
-# What these answer together depends on every field that operations 1 to 5 set.
+# What these answer together depends on every field of the setting.
 SHOWN = [
+    ("get_settings",),
     ("cheating_value", 0),
     ("cheating_value", 1),
     ("cheating_value", 2),
@@ -110,8 +136,8 @@ class Independence(unittest.TestCase):
     def test_a_second_list_knows_nothing_of_the_first(self):
         run(("create", 2), *ONE_OF_EACH)
         told = run(("create", 2), *SHOWN)
-        self.assertEqual(told, [[0], [0, 0, 1], [0, 0, 1], [-2], [0, 0, 1], [0, 0, 1],
-                                [0, 1, 2], [0, 1, 1], [0, 1, 1]])
+        self.assertEqual(told, [[0], [2, 1, 2, 1, 1, 1, 1, 1, 1, 1, 1], [0, 0, 1], [0, 0, 1], [-2],
+                                [0, 0, 1], [0, 0, 1], [0, 1, 2], [0, 1, 1], [0, 1, 1]])
 
     def test_the_same_list_is_answered_the_same_each_time(self):
         calls = written([("create", 2)] + ONE_OF_EACH)
@@ -155,10 +181,25 @@ class Refused(unittest.TestCase):
 
     def test_an_operation_that_only_asks_changes_nothing(self):
         plain = run(*self.MADE, *SHOWN)[len(self.MADE):]
-        for operation in ONE_OF_EACH[5:]:
+        for operation in ONE_OF_EACH:
+            if operation[0] not in THAT_CHANGE:
+                with self.subTest(operation):
+                    told = run(*self.MADE, operation, *SHOWN)
+                    self.assertEqual(told[len(self.MADE) + 1:], plain)
+
+    def test_an_operation_that_sets_something_changes_it(self):
+        plain = last(*self.MADE, ("get_settings",))
+        for operation in ONE_OF_EACH:
+            if operation[0] in THAT_CHANGE:
+                with self.subTest(operation):
+                    self.assertNotEqual(last(*self.MADE, operation, ("get_settings",)), plain)
+
+    def test_a_prior_that_does_not_exist_changes_nothing(self):
+        made = [*self.MADE, ("set_stakes", 9, 0)]
+        before = last(*made, ("get_settings",))
+        for operation in (("deterrent_prior_at", 1), ("deterrent_prior",), ("preview_merge", 0, 0)):
             with self.subTest(operation):
-                told = run(*self.MADE, operation, *SHOWN)
-                self.assertEqual(told[len(self.MADE) + 1:], plain)
+                self.assertEqual(run(*made, operation, ("get_settings",))[7:], [[-33], before])
 
     def test_an_instance_goes_on_after_a_refusal(self):
         self.assertEqual(last(*self.MADE, *REFUSED, ("set_stakes", 1, 1)), [0, 9, 5])
